@@ -1,0 +1,1 @@
+"""A door that learns from the cards that it is shown."""
