@@ -5,9 +5,12 @@ from learningdoor.door import DONE, WRONG_VALUE, Door, may_begin
 BEGIN = 0
 DAY = 1
 OPEN = 2
+WOULD = 3
+BOLT = 4
+BOOK = 5
 
-# Of each call, by its number (would is the last): how many whole numbers it has, then how many rows.
-SHAPES = ((2, 1), (1, 0), (0, 1), (0, 1))
+# Of each call, by its number (state is the last): how many whole numbers it has, then how many rows.
+SHAPES = ((2, 1), (1, 0), (0, 1), (0, 1), (1, 0), (1, 0), (0, 0))
 
 NO_DOOR = -61
 
@@ -58,7 +61,13 @@ class Desk:
             return [self.door.move_day(arguments[0])]
         if call == OPEN:
             return [self.door.show(arguments[0])]
-        return [self.door.would_answer(arguments[0])]
+        if call == WOULD:
+            return [self.door.would_answer(arguments[0])]
+        if call == BOLT:
+            return [self.door.set_bolt(arguments[0])]
+        if call == BOOK:
+            return self.door.entry(arguments[0])
+        return self.door.state()
 
     def begin(self, room, zone, key):
         if not may_begin(room, zone, key):

@@ -8,6 +8,7 @@ LAST_DAY = 65535
 BOOK_LENGTH = 16
 
 DONE = 0
+NO_ENTRY = -2
 ELSEWHERE = -13
 BOLTED = -15
 OLDER = -17
@@ -37,6 +38,12 @@ class Door:
         if day < self.day or day > LAST_DAY:
             return WRONG_VALUE
         self.day = day
+        return DONE
+
+    def set_bolt(self, on):
+        if on > 1:
+            return WRONG_VALUE
+        self.bolted = on == 1
         return DONE
 
     def would_answer(self, content):
@@ -87,3 +94,13 @@ class Door:
         self.book.append((card.kind, card.number, card.serial, self.day))
         if len(self.book) > BOOK_LENGTH:
             self.book.pop(0)
+
+    def entry(self, k):
+        if k >= len(self.book):
+            return [NO_ENTRY]
+        # The book is written oldest first, and read last first.
+        return list(self.book[len(self.book) - 1 - k])
+
+    def state(self):
+        bolted = 1 if self.bolted else 0
+        return [bolted, self.room, self.zone, self.day, self.learned_number, self.learned_round, len(self.book)]

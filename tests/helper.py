@@ -71,13 +71,53 @@ def would(content):
     return [3, len(content)] + list(content)
 
 
+def bolt(on):
+    return [4, on]
+
+
+def book(k):
+    return [5, k]
+
+
+def state():
+    return [6]
+
+
+WHOLE_BOOK = [book(k) for k in range(16)]
+
+
 def line(*calls):
     return [number for call in calls for number in call]
 
 
+def answered(*calls):
+    """What is answered to each call, as a list of its own; the counts ahead of them are taken away."""
+    given = answers(line(*calls))
+    parts, at = [], 0
+    while at < len(given):
+        count = given[at]
+        part = given[at + 1:at + 1 + count]
+        if count < 1 or len(part) != count:
+            raise AssertionError("a count doesn't fit: " + repr(given))
+        parts.append(part)
+        at += 1 + count
+    if len(parts) != len(calls):
+        raise AssertionError("so many answers to " + str(len(calls)) + " calls: " + repr(given))
+    return parts
+
+
 def replies(*calls):
     """The number answered to each call; every one of them answers with one number alone."""
-    given = answers(line(*calls))
-    if given[0::2] != [1] * len(calls):
-        raise AssertionError("a count isn't 1: " + repr(given))
-    return given[1::2]
+    parts = answered(*calls)
+    if any(len(part) != 1 for part in parts):
+        raise AssertionError("a count isn't 1: " + repr(parts))
+    return [part[0] for part in parts]
+
+
+def state_behind(*calls):
+    return answered(*calls, state())[-1]
+
+
+def book_behind(*calls):
+    """The entries that stand in the book, the last first."""
+    return [part for part in answered(*calls, *WHOLE_BOOK)[-16:] if part != [-2]]

@@ -1,6 +1,7 @@
 import unittest
 
-from tests.helper import EMERGENCY, GUEST, KEY, OTHER_KEY, SHUTTING, STAFF, begin, card, day, replies, show, would
+from tests.helper import (EMERGENCY, GUEST, KEY, OTHER_KEY, SHUTTING, STAFF, answered, begin, bolt, book, card, day,
+                          replies, show, state, would)
 
 
 class BeginTest(unittest.TestCase):
@@ -30,12 +31,23 @@ class BeginTest(unittest.TestCase):
         pass_card = card(GUEST, 5)
         self.assertEqual(replies(day(0), day(65536), show(pass_card), would(pass_card), show([]), would([1] * 100)),
                          [-61] * 6)
+        self.assertEqual(replies(bolt(0), bolt(1), book(0), state()), [-61] * 4)
+
+    def test_each_of_the_others_is_refused_as_the_first_call(self):
+        for call in (day(0), show(card(GUEST, 5)), would(card(GUEST, 5)), bolt(0), bolt(1), book(0), state()):
+            with self.subTest(call=call):
+                self.assertEqual(replies(call), [-61])
+                self.assertEqual(answered(call, begin(), state()), [[-61], [0], [0, 5, 2, 0, 0, 0, 0]])
+
+    def test_no_door_is_told_ahead_of_other_refusals(self):
+        self.assertEqual(replies(day(65536), day(4294967295), show([]), would([0] * 16), bolt(2), bolt(4294967295),
+                                 book(16), book(4294967295)), [-61] * 8)
 
     def test_a_refused_begin_makes_no_door(self):
         for wrong in (begin(room=64), begin(zone=8), begin(key=KEY[:15])):
             with self.subTest(wrong=wrong):
-                self.assertEqual(replies(wrong, day(1), show(card(GUEST, 5)), would(card(GUEST, 5))),
-                                 [-22, -61, -61, -61])
+                self.assertEqual(replies(wrong, day(1), show(card(GUEST, 5)), would(card(GUEST, 5)), bolt(0), bolt(1),
+                                         bolt(2), book(0), book(4294967295), state()), [-22] + [-61] * 9)
 
     def test_the_door_has_the_room_zone_and_key_told(self):
         for room, zone, key in ((0, 0, KEY), (63, 7, OTHER_KEY), (8, 3, [0] * 16), (17, 4, [255] * 16)):
